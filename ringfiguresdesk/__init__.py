@@ -1,0 +1,1 @@
+"""Figures in the plane, put together exactly: see ringfiguresdesk.plane.answers."""
